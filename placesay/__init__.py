@@ -1,0 +1,1 @@
+"""Placesay: what is said of the places of a word, turned into machines."""
