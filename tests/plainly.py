@@ -9,6 +9,23 @@ from itertools import product
 NAMES = ("p", "some", "both")
 
 
+def each_place(name, inner):
+    """The saying that the inner one is true for each place."""
+    return ("not", ("place", name, ("not", inner)))
+
+
+def alike(one, other):
+    """The saying that both are true, or none of them."""
+    return ("or", ("and", one, other), ("and", ("not", one), ("not", other)))
+
+
+def all_of(first, *others):
+    """The saying that all of them are true."""
+    for other in others:
+        first = ("and", first, other)
+    return first
+
+
 def words_up_to(letters, longest):
     """All words over the letters with at most that many places."""
     return ["".join(signs) for many in range(longest + 1) for signs in product(letters, repeat=many)]

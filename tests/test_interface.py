@@ -7,7 +7,7 @@ import re
 import unittest
 
 import placesay
-from placesay import errors, sayings
+from placesay import asking, errors, machines, making, sayings
 
 FOLDER = pathlib.Path(placesay.__file__).parent
 FILES = sorted(FOLDER.rglob("*.py"))
@@ -15,6 +15,19 @@ FILES = sorted(FOLDER.rglob("*.py"))
 LISTED = {
     "errors.py": {"SayError": None, "NoName": None, "NoLetter": None, "OtherMarks": None},
     "sayings.py": {"need": ["saying", "letters"], "true_of": ["saying", "word"]},
+    "machines.py": {
+        "lets_by": ["machine", "row"],
+        "turned": ["machine"],
+        "joined": ["one", "other", "way"],
+        "forgot": ["machine", "kept"],
+        "least": ["machine"],
+    },
+    "asking.py": {"sought": ["machine"], "apart": ["one", "other"]},
+    "making.py": {
+        "machine_of": ["saying", "letters"],
+        "fails": ["saying", "letters"],
+        "told_apart": ["one", "other", "letters"],
+    },
 }
 
 # What reaches outside of the program, or is barred for another reason.
@@ -34,7 +47,7 @@ class Interface(unittest.TestCase):
                 self.assertEqual(defined.count(name), 1, name)
 
     def test_arguments(self):
-        for module in (errors, sayings):
+        for module in (errors, sayings, machines, asking, making):
             names = LISTED[module.__name__.rpartition(".")[2] + ".py"]
             for name, arguments in names.items():
                 if arguments is not None:
@@ -45,6 +58,37 @@ class Interface(unittest.TestCase):
         saying = ("place", "p", ("letter", "p", "a"))
         self.assertIsNone(sayings.need(saying=saying, letters="ab"))
         self.assertIs(sayings.true_of(saying=saying, word="ab"), True)
+        machine = making.machine_of(saying=saying, letters="ab")
+        self.assertIs(machines.lets_by(machine=machine, row="ab"), True)
+        other = machines.turned(machine=machine)
+        both = machines.joined(one=machine, other=other, way="and")
+        self.assertEqual(machines.least(machine=both), (("a", "b"), [[0, 0]], [False]))
+        self.assertEqual(machines.forgot(machine=both, kept=["c", "c"]), (("c",), [[1], [1]], [False, False]))
+        self.assertEqual(asking.sought(machine=other), ("row", []))
+        self.assertEqual(asking.apart(one=machine, other=both), ["a"])
+        self.assertEqual(making.fails(saying=saying, letters="ab"), "")
+        self.assertEqual(making.told_apart(one=saying, other=("not", saying), letters="ab"), "")
+
+    def test_kinds_of_values(self):
+        saying = ("place", "p", ("letter", "p", "a"))
+        machine = making.machine_of(saying, "ab")
+        other = machines.turned(machine)
+        for made in (
+            machine,
+            other,
+            machines.joined(machine, other, "or"),
+            machines.forgot(machine, ["c", "c"]),
+            machines.least(machine),
+        ):
+            self.assertEqual([type(part) for part in (made, *made)], [tuple, tuple, list, list])
+            self.assertEqual({type(row) for row in made[1]}, {list})
+            self.assertEqual({type(room) for row in made[1] for room in row}, {int})
+            self.assertEqual({type(told) for told in made[2]}, {bool})
+        for found in (asking.sought(machine), asking.sought(machines.joined(machine, other, "and"))):
+            self.assertEqual([type(part) for part in (found, *found)], [tuple, str, list])
+        self.assertEqual(type(asking.apart(machine, other)), list)
+        self.assertEqual(type(making.fails(saying, "ab")), str)
+        self.assertEqual(type(making.told_apart(saying, ("not", saying), "ab")), str)
 
 
 class Package(unittest.TestCase):

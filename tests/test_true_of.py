@@ -8,25 +8,11 @@ import unittest.mock
 
 from placesay import sayings
 from placesay.sayings import need, true_of
-from tests.plainly import made_up, plainly_true, words_up_to
+from tests.plainly import all_of, alike, each_place, made_up, plainly_true, words_up_to
 
 SIGNS = [chr(code) for code in range(ord(" "), ord("~") + 1) if chr(code) != "%"]
 
 NEVER = ("place", "n", ("not", ("same", "n", "n")))
-
-
-def each_place(name, inner):
-    return ("not", ("place", name, ("not", inner)))
-
-
-def alike(one, other):
-    return ("or", ("and", one, other), ("and", ("not", one), ("not", other)))
-
-
-def all_of(first, *others):
-    for other in others:
-        first = ("and", first, other)
-    return first
 
 
 class Case(unittest.TestCase):
